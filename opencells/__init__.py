@@ -1,0 +1,1 @@
+"""Opencells: machines with open cells, and the least that stand in their place."""
