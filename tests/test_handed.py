@@ -1,0 +1,139 @@
+"""[2] what is handed in stays as it was, and what is told is the asker's own."""
+
+import copy
+import unittest
+
+from opencells.errors import NotClosed
+from opencells.lotmachines import lots_fault, made
+from opencells.lots import followers, greatest_lots
+from opencells.machines import is_machine
+from opencells.partings import parted, parting
+from opencells.runs import lets, reached, run
+from opencells.standing import pairs_fault, stands
+from opencells.tries import tries_for
+from tests.samples import FULL, SMALL, ring, two_rings
+
+RINGS = two_rings(2, 3)
+
+# Each asks for something in which a list is told: a call, and where the list stands in what it tells.
+TOLD = [
+    (lambda machine: run(machine, 0, (0, 0)), lambda told: told[0]),
+    (reached, lambda told: told),
+    (parted, lambda told: told),
+    (greatest_lots, lambda told: told),
+    (lambda machine: stands(machine, machine), lambda told: told[1]),
+    (lambda machine: tries_for(machine, 24, 300), lambda told: told[1]),
+]
+
+
+class ToldTest(unittest.TestCase):
+
+    def test_lists_told_are_new_ones(self):
+        for ask, list_in in TOLD:
+            for machine in (SMALL, FULL, RINGS):
+                first, second = ask(machine), ask(machine)
+                self.assertEqual(first, second)
+                self.assertIs(type(list_in(first)), list)
+                self.assertIsNot(list_in(first), list_in(second))
+
+    def test_changed_by_the_asker_they_change_no_later_answer(self):
+        for ask, list_in in TOLD:
+            for machine in (SMALL, FULL, RINGS):
+                expected = copy.deepcopy(ask(machine))
+                spoilt = list_in(ask(machine))
+                spoilt.clear()
+                self.assertEqual(ask(machine), expected)
+                list_in(ask(machine)).append("more")
+                list_in(ask(machine)).reverse()
+                self.assertEqual(ask(machine), expected)
+
+    def test_later_asking_changes_none(self):
+        for ask, list_in in TOLD:
+            told = ask(SMALL)
+            kept = copy.deepcopy(told)
+            for machine in (FULL, RINGS, SMALL, ring([1, 2, 3])):
+                ask(machine)
+            self.assertEqual(told, kept)
+
+    def test_asking_alike_machines_tells_alike(self):
+        for ask, list_in in TOLD:
+            for machine in (SMALL, FULL, RINGS):
+                self.assertEqual(ask(machine), ask(copy.deepcopy(machine)))
+
+
+class HandedTest(unittest.TestCase):
+
+    def test_lots_stay_as_they_were(self):
+        for lots in ([(0,), (1,), (2,)], [(0,), (1,)], [(2,)], [(0, 1)], [[0], [1]], [(1, 0)]):
+            kept = copy.deepcopy(lots)
+            lots_fault(SMALL, lots)
+            try:
+                made(SMALL, lots)
+            except NotClosed:
+                pass
+            self.assertEqual(lots, kept)
+
+    def test_lots_are_looked_at_as_they_are_then(self):
+        lots = [(0,), (1,), (2,)]
+        told = made(SMALL, lots)
+        self.assertIsNone(lots_fault(SMALL, lots))
+        lots.pop()
+        self.assertEqual(lots_fault(SMALL, lots), ("behind", 1, 0))
+        self.assertEqual(told, SMALL)
+        lots.append((2,))
+        lots.append((0,))
+        self.assertIsNone(lots_fault(SMALL, lots))
+        self.assertEqual(len(made(SMALL, lots)[1]), 4)
+        lots[1] = [1]
+        self.assertEqual(lots_fault(SMALL, lots), ("shape",))
+
+    def test_a_fault_stays_when_the_list_is_changed(self):
+        lots = [(0,), (1,)]
+        with self.assertRaises(NotClosed) as caught:
+            made(SMALL, lots)
+        lots.append((2,))
+        self.assertEqual(caught.exception.fault, ("behind", 1, 0))
+
+    def test_pairs_stay_as_they_were(self):
+        for pairs in ([(2, 2), (0, 0), (1, 1), (0, 0)], [(0, 0)], [], [[0, 0]], [(0, 0), (1, 2)]):
+            kept = copy.deepcopy(pairs)
+            pairs_fault(SMALL, SMALL, pairs)
+            self.assertEqual(pairs, kept)
+
+    def test_pairs_are_looked_at_as_they_are_then(self):
+        pairs = stands(SMALL, SMALL)[1]
+        self.assertIsNone(pairs_fault(SMALL, SMALL, pairs))
+        pairs.remove((1, 1))
+        self.assertEqual(pairs_fault(SMALL, SMALL, pairs), ("behind", 0, 0))
+        pairs.append((1, 1))
+        self.assertIsNone(pairs_fault(SMALL, SMALL, pairs))
+        self.assertEqual(stands(SMALL, SMALL), ("yes", [(0, 0), (1, 1), (2, 2)]))
+
+    def test_lots_that_were_told_may_be_handed_in_and_changed(self):
+        count, lots = tries_for(RINGS, 24, 300)
+        made(RINGS, lots)
+        lots[0] = (1,)
+        self.assertEqual(lots_fault(RINGS, lots), ("begin",))
+        self.assertIsNone(lots_fault(RINGS, tries_for(RINGS, 24, 300)[1]))
+
+    def test_lists_within_a_thing_stay_as_they_were(self):
+        thing = (1, [[[0, 0]]])
+        kept = copy.deepcopy(thing)
+        is_machine(thing)
+        self.assertEqual(thing, kept)
+
+    def test_told_rows_may_be_handed_in(self):
+        machine = two_rings(11, 13)
+        row = parting(machine, 0, 11)
+        self.assertEqual(len(row), 143)
+        self.assertTrue(lets(machine, 0, row) and lets(machine, 11, row))
+        self.assertNotEqual(run(machine, 0, row)[0][-1], run(machine, 11, row)[0][-1])
+
+    def test_tuples_told_are_tuples(self):
+        self.assertIs(type(parting(SMALL, 0, 1)), tuple)
+        self.assertIs(type(followers(SMALL, (0, 1), 0)), tuple)
+        self.assertIs(type(made(SMALL, [(0,), (1,), (2,)])[1]), tuple)
+        for room, row in reached(SMALL):
+            self.assertIs(type(row), tuple)
+        for lot in greatest_lots(SMALL) + tries_for(SMALL, 24, 300)[1]:
+            self.assertIs(type(lot), tuple)

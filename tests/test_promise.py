@@ -1,0 +1,123 @@
+"""[3] what the parts promise together: what fits, what closed lots make, what pairs show."""
+
+import itertools
+import random
+import unittest
+
+from opencells.errors import TooMany
+from opencells.lotmachines import lots_fault, made
+from opencells.lots import fits, greatest_lots
+from opencells.machines import is_machine
+from opencells.partings import parting
+from opencells.runs import lets, run
+from opencells.standing import pairs_fault, stands
+from opencells.tries import tries_for
+from tests import brute
+from tests.samples import draw_machine, draw_row, drawn, drawn_likeness
+
+
+def close(machine, lots):
+    """Lots with all that must stand behind them put at the end, merged into greater ones where they lie in one."""
+    lots = list(lots)
+    for lot in lots:
+        for ask in range(machine[0]):
+            behind = {machine[1][room][ask][0] for room in lot} - {None}
+            if behind and not any(behind <= set(other) for other in lots):
+                lots.append(tuple(sorted(behind)))
+    return lots
+
+
+class PromiseTest(unittest.TestCase):
+
+    def assert_answers_alike(self, machine, other, row):
+        """At each ask of the row that the machine lets, the other one says and leads on as it does."""
+        for many in range(1, len(row) + 1):
+            part = row[:many]
+            if not lets(machine, 0, part):
+                return
+            answers, room = run(machine, 0, part)
+            self.assertTrue(answers[-1] is None or lets(other, 0, part))
+            other_answers, other_room = run(other, 0, part)
+            self.assertTrue(answers[-1] is None or other_answers[-1] == answers[-1])
+            self.assertTrue(room is None or other_room is not None)
+
+    def assert_stands(self, draw, machine, other):
+        verdict, pairs = stands(machine, other)
+        self.assertEqual(verdict, "yes")
+        self.assertIsNone(pairs_fault(machine, other, pairs))
+        for k in range(10):
+            self.assert_answers_alike(machine, other, draw_row(draw, machine[0], 40))
+
+    def test_two_rooms_fit_just_where_no_row_parts_them(self):
+        for machine in drawn(31, 60, 10, 3):
+            for pair in itertools.product(range(len(machine[1])), repeat=2):
+                self.assertIs(fits(machine, pair), parting(machine, *pair) is None)
+
+    def test_closed_lots_make_machines_that_stand(self):
+        draw = random.Random(32)
+        for machine in drawn(32, 150, 8, 3):
+            begin = draw.choice([lot for lot in greatest_lots(machine) if 0 in lot])
+            lots = close(machine, [begin])
+            if len(lots) > 24:
+                continue
+            self.assertIsNone(lots_fault(machine, lots))
+            other = made(machine, lots)
+            self.assertTrue(is_machine(other))
+            self.assert_stands(draw, machine, other)
+
+    def test_all_greatest_lots_make_a_machine_that_stands(self):
+        draw = random.Random(33)
+        for machine in drawn(33, 100, 6, 2):
+            lots = sorted(greatest_lots(machine), key=lambda lot: 0 not in lot)
+            if len(lots) <= 24:
+                self.assertIsNone(lots_fault(machine, lots))
+                self.assert_stands(draw, machine, made(machine, lots))
+
+    def test_tries_that_come_out_make_machines_that_stand(self):
+        draw = random.Random(34)
+        for machine in drawn(34, 150, 9, 3):
+            for m in (1, 2, 3, 24):
+                try:
+                    lots = tries_for(machine, m, 300)[1]
+                except TooMany:
+                    continue
+                if lots is not None:
+                    self.assert_stands(draw, machine, made(machine, lots))
+
+    def test_where_no_try_comes_out_no_machine_of_so_few_rooms_stands(self):
+        draw = random.Random(35)
+        looked = 0
+        for k in range(100):
+            machine = draw_machine(draw, draw.randint(2, 6), 1, 0, 0.2)
+            if tries_for(machine, 2, 300)[1] is None:
+                cells = [(goes, says) for goes in range(2) for says in range(2)]
+                for rooms in itertools.product(cells, repeat=2):
+                    other = (1, tuple((cell,) for cell in rooms))
+                    self.assertEqual(stands(machine, other)[0], "no")
+                looked += 1
+        self.assertGreater(looked, 10)
+
+    def test_whatever_pairs_have_no_fault(self):
+        draw = random.Random(36)
+        shown = 0
+        for machine in drawn(36, 400, 5, 2):
+            other = drawn_likeness(draw, machine)
+            pairs = [(room, room) for room in range(len(machine[1]))]
+            pairs += [(draw.randrange(len(machine[1])), draw.randrange(len(other[1]))) for k in range(draw.randint(0, 1))]
+            draw.shuffle(pairs)
+            if pairs_fault(machine, other, pairs) is None:
+                shown += 1
+                self.assert_stands(draw, machine, other)
+        self.assertGreater(shown, 50)
+
+    def test_where_it_does_not_stand_no_pairs_show_it_and_the_row_fails(self):
+        draw = random.Random(37)
+        for machine in drawn(37, 100, 3, 2):
+            other = draw_machine(draw, 2, machine[0])
+            verdict, row = stands(machine, other)
+            if verdict == "no":
+                self.assertTrue(brute.fails_at(machine, other, row))
+                pairs = list(itertools.product(range(len(machine[1])), range(2)))
+                for many in range(len(pairs) + 1):
+                    for some in itertools.combinations(pairs, many):
+                        self.assertIsNotNone(pairs_fault(machine, other, list(some)))
