@@ -1,7 +1,7 @@
 """Closed lists of lots, and the machines they make."""
 
 from opencells.errors import NotClosed
-from opencells.lots import first_parted, followers
+from opencells.lots import first_parted_lot, followers
 from opencells.machines import MOST_ROOMS, is_below
 from opencells.partings import parted_pairs
 
@@ -10,11 +10,9 @@ def lots_fault(machine, thing):
     """The fault of a thing, whatever it is, as a closed list of lots; None where it is one."""
     if not is_list_of_rooms(thing, len(machine[1])):
         return ("shape",)
-    pairs = parted_pairs(machine)
-    for i, lot in enumerate(thing):
-        two = first_parted(pairs, lot)
-        if two is not None:
-            return ("parted", i, two[0], two[1])
+    cut = first_parted_lot(parted_pairs(machine), thing)
+    if cut is not None:
+        return ("parted",) + cut
     if 0 not in thing[0]:
         return ("begin",)
     for i, lot in enumerate(thing):

@@ -15,6 +15,15 @@ def first_parted(pairs, lot):
     return None
 
 
+def first_parted_lot(pairs, lots):
+    """The first of some lots that has two rooms that part: a tuple of its number and the first such two, or None."""
+    for i, lot in enumerate(lots):
+        two = first_parted(pairs, lot)
+        if two is not None:
+            return (i,) + two
+    return None
+
+
 def fits(machine, rooms):
     """Whether no two of a tuple of rooms part, in whatever order and however often they stand there."""
     return first_parted(parted_pairs(machine), sorted(set(rooms))) is None

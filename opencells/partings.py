@@ -1,11 +1,26 @@
 """Rows that part two rooms, and the rooms that part."""
 
+from opencells.runs import run
 from opencells.walks import walk_both
+
+
+def answers_unlike(one, other):
+    """Whether two things said are both answers, unlike ones."""
+    return one is not None and other is not None and one != other
 
 
 def say_unlike(cell, beside):
     """Whether two cells both say answers, unlike ones."""
-    return cell[1] is not None and beside[1] is not None and cell[1] != beside[1]
+    return answers_unlike(cell[1], beside[1])
+
+
+def parts(machine, one, other, row):
+    """Whether a row parts two rooms."""
+    here = run(machine, one, row)[0]
+    there = run(machine, other, row)[0]
+    if not row or len(here) < len(row) or len(there) < len(row):
+        return False
+    return answers_unlike(here[-1], there[-1])
 
 
 def parting(machine, one, other):

@@ -1,5 +1,12 @@
 """Rows of asks, gone from a room."""
 
+from opencells.machines import is_below
+
+
+def is_row(thing, asks):
+    """Whether a thing, whatever it is, is a row of so many asks' numbers."""
+    return isinstance(thing, tuple) and all([is_below(ask, asks) for ask in thing])
+
 
 def run(machine, room, row):
     """Go a row from a room: a tuple of the list of what was said, and the room at the end or None."""

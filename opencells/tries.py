@@ -4,9 +4,9 @@ A try is a tuple (lots, ways, fresh): lots a list of rising tuples of rooms, way
 a lot's number, fresh the list of the ways by which it is not settled yet.
 """
 
-from opencells.errors import TooMany
-from opencells.lots import first_parted, followers
+from opencells.lots import first_parted_lot, followers
 from opencells.partings import parted_pairs
+from opencells.turns import go_through
 
 
 def first_try():
@@ -31,11 +31,6 @@ def settled(machine, lots, ways, fresh):
     return full
 
 
-def is_cut(pairs, lots):
-    """Whether a lot has two rooms that part, by parted_pairs."""
-    return any([first_parted(pairs, lot) is not None for lot in lots])
-
-
 def gap_of(machine, lots, ways):
     """The first (lot's number, ask) that has followers and no way; None where there is none."""
     for i, lot in enumerate(lots):
@@ -58,21 +53,28 @@ def with_way(lots, ways, gap, t):
     return (more, longer, [gap])
 
 
+def look_at(machine, pairs, m, one):
+    """Look at a try for m rooms, as go_through asks: what comes out are its settled lots and its ways."""
+    lots, ways, fresh = one
+    full = settled(machine, lots, ways, fresh)
+    cut = first_parted_lot(pairs, full)
+    if cut is not None:
+        return (None, ("cut",) + cut, None)
+    gap = gap_of(machine, full, ways)
+    if gap is None:
+        return ((full, ways), None, None)
+    return (None, ("gap",) + gap, tries_behind(full, ways, gap, m))
+
+
+def through_tries(machine, pairs, m, most):
+    """Go through the tries for m rooms, pairs being the parted_pairs: a tuple (count, out, steps), as of go_through.
+
+    The head of a step is ("cut", lot's number, room, room), or ("gap", lot's number, ask).
+    """
+    return go_through(first_try(), lambda one: look_at(machine, pairs, m, one), most)
+
+
 def tries_for(machine, m, most):
     """Go through the tries for m rooms: a tuple of how many, and the lots of the one that came out or None."""
-    pairs = parted_pairs(machine)
-    waiting = [first_try()]
-    count = 0
-    while waiting:
-        lots, ways, fresh = waiting.pop()
-        count += 1
-        if count > most:
-            raise TooMany("more tries than may be gone through")
-        lots = settled(machine, lots, ways, fresh)
-        if is_cut(pairs, lots):
-            continue
-        gap = gap_of(machine, lots, ways)
-        if gap is None:
-            return (count, lots)
-        waiting += tries_behind(lots, ways, gap, m)[::-1]
-    return (count, None)
+    count, out, steps = through_tries(machine, parted_pairs(machine), m, most)
+    return (count, None if out is None else out[0])

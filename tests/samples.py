@@ -56,6 +56,14 @@ def ring(says):
     return (1, tuple((((room + 1) % many, says[room]),) for room in range(many)))
 
 
+def countdown(many, backs=None):
+    """So many rooms in a row, the last of which alone says 1: all part. backs: where some rooms go by a second ask."""
+    cells = [((room + 1, 0) if room < many - 1 else (None, 1),) for room in range(many)]
+    if backs is None:
+        return (1, tuple(cells))
+    return (2, tuple(cell + ((backs.get(room), None),) for room, cell in enumerate(cells)))
+
+
 def two_rings(one, other):
     """Two rings in one machine: from their first rooms, 0 and one, only the row that ends both at once parts them."""
     cells = [((room + 1) % one, 0 if room == one - 1 else None) for room in range(one)]

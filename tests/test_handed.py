@@ -4,9 +4,12 @@ import copy
 import unittest
 
 from opencells.errors import NotClosed
+from opencells.fulls import blocks
+from opencells.least import least, paper_for
 from opencells.lotmachines import lots_fault, made
 from opencells.lots import followers, greatest_lots
 from opencells.machines import is_machine
+from opencells.papers import needs
 from opencells.partings import parted, parting
 from opencells.runs import lets, reached, run
 from opencells.standing import pairs_fault, stands
@@ -23,6 +26,8 @@ TOLD = [
     (greatest_lots, lambda told: told),
     (lambda machine: stands(machine, machine), lambda told: told[1]),
     (lambda machine: tries_for(machine, 24, 300), lambda told: told[1]),
+    (least, lambda told: told[1]),
+    (lambda machine: blocks(FULL), lambda told: told),
 ]
 
 
@@ -116,6 +121,33 @@ class HandedTest(unittest.TestCase):
         self.assertEqual(lots_fault(RINGS, lots), ("begin",))
         self.assertIsNone(lots_fault(RINGS, tries_for(RINGS, 24, 300)[1]))
 
+    def test_papers_stay_as_they_were(self):
+        paper = paper_for(SMALL, 3)
+        for thing in (paper, list(paper), ("tries", list(paper[1])), ("parted", [(0, ())], [[0]]), ["tries", []]):
+            kept = copy.deepcopy(thing)
+            needs(SMALL, 3, thing)
+            self.assertEqual(thing, kept)
+
+    def test_papers_are_looked_at_as_they_are_then(self):
+        rows = [(0,)]
+        self.assertIs(needs(FULL, 2, ("parted", ((0, ()), (2, (1,))), rows)), False)
+        self.assertIs(needs(FULL, 2, ("parted", ((0, ()), (2, (1,))), tuple(rows))), True)
+
+    def test_told_papers_may_be_handed_in_and_lots_changed(self):
+        other, lots, paper = least(FULL)
+        lots.clear()
+        self.assertIs(needs(FULL, 3, paper), True)
+        self.assertEqual(least(FULL)[:2], (other, [(0,), (1,), (2,)]))
+
+    def test_long_papers_may_be_handed_in(self):
+        # Two rings, of 11 and of 12 rooms, behind room 0: it is late when both say something at once.
+        rooms = [((1 + (room + 1) % 11, 0 if room == 10 else None), (None, None)) for room in range(11)]
+        rooms += [((12 + (room + 1) % 12, 1 if room == 0 else None), (None, None)) for room in range(12)]
+        machine = (2, (((1, None), (12, None)), *rooms))
+        paper = paper_for(machine, 2)
+        self.assertGreater(len(paper[1][3][0][3][0][4]), 130)
+        self.assertIs(needs(machine, 2, paper), True)
+
     def test_lists_within_a_thing_stay_as_they_were(self):
         thing = (1, [[[0, 0]]])
         kept = copy.deepcopy(thing)
@@ -135,5 +167,5 @@ class HandedTest(unittest.TestCase):
         self.assertIs(type(made(SMALL, [(0,), (1,), (2,)])[1]), tuple)
         for room, row in reached(SMALL):
             self.assertIs(type(row), tuple)
-        for lot in greatest_lots(SMALL) + tries_for(SMALL, 24, 300)[1]:
+        for lot in greatest_lots(SMALL) + tries_for(SMALL, 24, 300)[1] + least(SMALL)[1] + blocks(FULL):
             self.assertIs(type(lot), tuple)

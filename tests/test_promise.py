@@ -5,9 +5,13 @@ import random
 import unittest
 
 from opencells.errors import TooMany
+from opencells.fulls import is_full, shrunk
+from opencells.least import least
 from opencells.lotmachines import lots_fault, made
 from opencells.lots import fits, greatest_lots
 from opencells.machines import is_machine
+from opencells.namings import naming
+from opencells.papers import needs
 from opencells.partings import parting
 from opencells.runs import lets, run
 from opencells.standing import pairs_fault, stands
@@ -121,3 +125,33 @@ class PromiseTest(unittest.TestCase):
                 for many in range(len(pairs) + 1):
                     for some in itertools.combinations(pairs, many):
                         self.assertIsNotNone(pairs_fault(machine, other, list(some)))
+
+    def test_least_machines_stand_and_a_paper_shows_that_none_of_fewer_rooms_does(self):
+        draw = random.Random(38)
+        shown = 0
+        for machine in drawn(38, 150, 9, 3):
+            try:
+                other, lots, paper = least(machine)
+            except TooMany:
+                continue
+            self.assert_stands(draw, machine, other)
+            self.assertEqual(paper is None, len(lots) == 1)
+            if paper is not None:
+                self.assertTrue(needs(machine, len(lots), paper))
+                # A machine of so few rooms is itself one in its place, so it has no such paper for more.
+                self.assertFalse(needs(other, len(lots) + 1, paper))
+                shown += 1
+        self.assertGreater(shown, 30)
+
+    def test_where_nothing_is_open_it_is_the_one_machine_but_for_names(self):
+        draw = random.Random(39)
+        for k in range(60):
+            machine = draw_machine(draw, draw.randint(1, 8), draw.randint(1, 2), 0, 0)
+            try:
+                other = least(machine)[0]
+            except TooMany:
+                continue
+            self.assertTrue(is_full(other))
+            self.assert_stands(draw, machine, shrunk(machine))
+            names = naming(shrunk(machine), other)
+            self.assertEqual(sorted(names), list(range(len(other[1]))))

@@ -6,15 +6,10 @@ from opencells.errors import TooMany
 from opencells.lotmachines import lots_fault
 from opencells.tries import tries_for
 from tests import brute
-from tests.samples import SMALL, drawn, ring
+from tests.samples import SMALL, countdown, drawn, ring
 
 # Three rooms in a row, all of which part.
 THREE = (1, (((1, 0),), ((2, 1),), ((None, 2),)))
-
-
-def countdown(many):
-    """So many rooms in a row, the last of which alone says 1: all part."""
-    return (1, tuple(((room + 1, 0) if room < many - 1 else (None, 1),) for room in range(many)))
 
 
 class TriesTest(unittest.TestCase):
