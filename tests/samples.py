@@ -86,3 +86,26 @@ ODD_THINGS = [
     nested(120, lambda inner: [inner]), nested(120, lambda inner: (inner,)), nested(120, lambda inner: {0: inner}),
     nested(120, lambda inner: (0, inner)), nested(119, lambda inner: (inner, 0)), [()] * 25, [None] * 600,
 ]
+
+
+def draw_sheet(draw, asks, most_rows, most_asks, answers=2, unknown=0.3):
+    """A drawn sheet of at most so many rows, each of at most so many asks; its answers often clash."""
+    sheet = []
+    for k in range(draw.randint(0, most_rows)):
+        row = tuple(draw.randrange(asks) for ask in range(draw.randint(1, most_asks)))
+        told = tuple(None if draw.random() < unknown else draw.randrange(answers) for ask in row)
+        sheet.append((row, told))
+    return sheet
+
+
+def draw_sheet_of(draw, machine, most_rows, most_asks, unknown=0.3):
+    """A drawn sheet with which a machine agrees, but where one of its cells is open."""
+    sheet = []
+    for row, told in draw_sheet(draw, machine[0], most_rows, most_asks):
+        room, said = 0, []
+        for ask in row:
+            if room is not None:
+                room, says = machine[1][room][ask]
+                said.append(None if draw.random() < unknown else says)
+        sheet.append((row[:len(said)], tuple(said)))
+    return sheet

@@ -3,20 +3,26 @@
 import copy
 import unittest
 
-from opencells.errors import NotClosed
+from opencells.errors import Clash, NotClosed, NoWords
 from opencells.fulls import blocks
 from opencells.least import least, paper_for
 from opencells.lotmachines import lots_fault, made
 from opencells.lots import followers, greatest_lots
 from opencells.machines import is_machine
+from opencells.nets import least_net, net_fault
 from opencells.papers import needs
 from opencells.partings import parted, parting
+from opencells.pieces import greatest_pieces
 from opencells.runs import lets, reached, run
+from opencells.sheets import disagrees, least_of, tree_of
 from opencells.standing import pairs_fault, stands
 from opencells.tries import tries_for
+from opencells.words import is_words, tables
 from tests.samples import FULL, SMALL, ring, two_rings
 
 RINGS = two_rings(2, 3)
+
+SHEET = [((0, 1, 1), (3, None, 5)), ((1, 1, 0), (None, 0, 0)), ((0, 1), (None, 4))]
 
 # Each asks for something in which a list is told: a call, and where the list stands in what it tells.
 TOLD = [
@@ -28,6 +34,9 @@ TOLD = [
     (lambda machine: tries_for(machine, 24, 300), lambda told: told[1]),
     (least, lambda told: told[1]),
     (lambda machine: blocks(FULL), lambda told: told),
+    (lambda machine: least_of(2, SHEET), lambda told: told[1]),
+    (lambda machine: tables(machine, tuple(range(len(machine[1])))), lambda told: told),
+    (lambda machine: greatest_pieces(3, (3, 5, 6), 0), lambda told: told),
 ]
 
 
@@ -147,6 +156,40 @@ class HandedTest(unittest.TestCase):
         paper = paper_for(machine, 2)
         self.assertGreater(len(paper[1][3][0][3][0][4]), 130)
         self.assertIs(needs(machine, 2, paper), True)
+
+    def test_sheets_stay_as_they_were(self):
+        for sheet in (SHEET, SHEET[::-1], [], SHEET * 2, [((0,), (1,)), ((0,), (2,))]):
+            kept = copy.deepcopy(sheet)
+            for ask in (lambda: tree_of(2, sheet), lambda: least_of(2, sheet), lambda: disagrees(FULL, sheet)):
+                try:
+                    ask()
+                except Clash:
+                    pass
+                self.assertEqual(sheet, kept)
+
+    def test_sheets_are_looked_at_as_they_are_then(self):
+        sheet = list(SHEET)
+        tree, other = tree_of(2, sheet), least_of(2, sheet)
+        sheet.append(((0,), (7,)))
+        with self.assertRaises(Clash) as caught:
+            tree_of(2, sheet)
+        sheet.pop()
+        self.assertEqual((caught.exception.row, caught.exception.place), (3, 0))
+        self.assertEqual((tree_of(2, sheet), least_of(2, sheet)), (tree, other))
+        self.assertIsNone(disagrees(other[0], sheet))
+
+    def test_words_stay_as_they_were(self):
+        for words in ([2, 0, 1], [[0], 1, 2], {0: 1}):
+            kept = copy.deepcopy(words)
+            is_words(SMALL, words)
+            self.assertRaises(NoWords, tables, SMALL, words)
+            self.assertEqual(words, kept)
+
+    def test_tables_told_may_be_handed_in(self):
+        for on, off in tables(SMALL, (2, 0, 1)):
+            net, paper = least_net(3, on, off)
+            self.assertIsNone(net_fault(on, off, net))
+            self.assertEqual(least_net(3, on, off), (net, paper))
 
     def test_lists_within_a_thing_stay_as_they_were(self):
         thing = (1, [[[0, 0]]])

@@ -4,7 +4,7 @@ import itertools
 import random
 import unittest
 
-from opencells.errors import TooMany
+from opencells.errors import Clash, TooMany
 from opencells.fulls import is_full, shrunk
 from opencells.least import least
 from opencells.lotmachines import lots_fault, made
@@ -13,11 +13,14 @@ from opencells.machines import is_machine
 from opencells.namings import naming
 from opencells.papers import needs
 from opencells.partings import parting
+from opencells.nets import least_net, says
 from opencells.runs import lets, run
+from opencells.sheets import disagrees, least_of, tree_of
 from opencells.standing import pairs_fault, stands
 from opencells.tries import tries_for
-from tests import brute
-from tests.samples import draw_machine, draw_row, drawn, drawn_likeness
+from opencells.words import bits_of, tables
+from tests import brute, brutenets
+from tests.samples import draw_machine, draw_row, draw_sheet, draw_sheet_of, drawn, drawn_likeness
 
 
 def close(machine, lots):
@@ -155,3 +158,45 @@ class PromiseTest(unittest.TestCase):
             self.assert_stands(draw, machine, shrunk(machine))
             names = naming(shrunk(machine), other)
             self.assertEqual(sorted(names), list(range(len(other[1]))))
+
+    def test_of_told_rows_the_least_machine_agrees_with_all(self):
+        draw = random.Random(40)
+        agreed = 0
+        for k in range(200):
+            asks = draw.randint(1, 3)
+            sheet = draw_sheet(draw, asks, 4, 6, 2, 0.5)
+            try:
+                other, lots, paper = least_of(asks, sheet)
+            except (Clash, TooMany):
+                continue
+            self.assertIsNone(disagrees(other, sheet))
+            self.assertTrue(paper is None or needs(tree_of(asks, sheet), len(lots), paper))
+            agreed += 1
+        self.assertGreater(agreed, 50)
+
+    def test_a_hidden_machine_agrees_with_what_is_told_of_it_and_has_no_fewer_rooms(self):
+        draw = random.Random(41)
+        for k in range(100):
+            hidden = draw_machine(draw, draw.randint(1, 4), draw.randint(1, 2), 0, 0)
+            sheet = draw_sheet_of(draw, hidden, 3, 6)
+            self.assertIsNone(disagrees(hidden, sheet))
+            self.assertLessEqual(len(least_of(hidden[0], sheet)[1]), len(hidden[1]))
+
+    def test_least_nets_for_words_run_as_the_rooms_do(self):
+        draw = random.Random(42)
+        for k in range(60):
+            machine = draw_machine(draw, draw.randint(1, 8), draw.randint(1, 2), 0.2, 0.2, 8)
+            b, c = bits_of(machine)
+            words = tuple(draw.sample(range(1 << b), len(machine[1])))
+            nets = []
+            for on, off in tables(machine, words):
+                net, paper = least_net(b + c, on, off)
+                self.assertTrue(paper is None or brutenets.is_paper(b + c, on, off, len(net), paper))
+                nets.append(net)
+            for room, ask in itertools.product(range(len(machine[1])), range(machine[0])):
+                bits = [says(net, words[room] + ask * 2 ** b) for net in nets]
+                goes, answer = machine[1][room][ask]
+                if goes is not None:
+                    self.assertEqual(sum(bit << k for k, bit in enumerate(bits[:b])), words[goes])
+                if answer is not None:
+                    self.assertEqual(sum(bit << k for k, bit in enumerate(bits[b:])), answer)
