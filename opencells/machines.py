@@ -11,6 +11,13 @@ def is_below(thing, count):
     return isinstance(thing, int) and not isinstance(thing, bool) and 0 <= thing < count
 
 
+def are_unlike_below(thing, many, count):
+    """Whether a thing is a tuple of so many unlike whole numbers from 0 to below count."""
+    if not isinstance(thing, tuple) or len(thing) != many:
+        return False
+    return all([is_below(number, count) for number in thing]) and len(set(thing)) == many
+
+
 def is_machine(thing):
     """Whether a thing, whatever it is, is a machine."""
     if not isinstance(thing, tuple) or len(thing) != 2:

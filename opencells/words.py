@@ -1,7 +1,7 @@
 """Words of bits for a machine's rooms, and the tables of bits that nets must say."""
 
 from opencells.errors import NoWords, TooMany
-from opencells.machines import is_below
+from opencells.machines import are_unlike_below
 from opencells.pieces import bit_of
 
 MOST_WITH_WORDS = 8
@@ -19,10 +19,7 @@ def bits_of(machine):
 
 def is_words(machine, thing):
     """Whether a thing, whatever it is, is words for a machine."""
-    count = 1 << bits_of(machine)[0]
-    if not isinstance(thing, tuple) or len(thing) != len(machine[1]):
-        return False
-    return all([is_below(word, count) for word in thing]) and len(set(thing)) == len(thing)
+    return are_unlike_below(thing, len(machine[1]), 1 << bits_of(machine)[0])
 
 
 def refuse_no_words(machine, thing):

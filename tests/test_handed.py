@@ -3,12 +3,16 @@
 import copy
 import unittest
 
-from opencells.errors import Clash, NotClosed, NoWords
+from opencells.bitmachines import bit_fault, bit_run
+from opencells.choices import nets_for, words_for
+from opencells.errors import Clash, NotClosed, NotOpen, NoWords
 from opencells.fulls import blocks
+from opencells.growth import Grown, filled
 from opencells.least import least, paper_for
 from opencells.lotmachines import lots_fault, made
 from opencells.lots import followers, greatest_lots
 from opencells.machines import is_machine
+from opencells.netpapers import needs_pieces
 from opencells.nets import least_net, net_fault
 from opencells.papers import needs
 from opencells.partings import parted, parting
@@ -21,6 +25,8 @@ from opencells.words import is_words, tables
 from tests.samples import FULL, SMALL, ring, two_rings
 
 RINGS = two_rings(2, 3)
+
+BITS = (1, 0, (("0",), ("1",), (), ("-",)))
 
 SHEET = [((0, 1, 1), (3, None, 5)), ((1, 1, 0), (None, 0, 0)), ((0, 1), (None, 4))]
 
@@ -37,7 +43,17 @@ TOLD = [
     (lambda machine: least_of(2, SHEET), lambda told: told[1]),
     (lambda machine: tables(machine, tuple(range(len(machine[1])))), lambda told: told),
     (lambda machine: greatest_pieces(3, (3, 5, 6), 0), lambda told: told),
+    (lambda machine: bit_run(BITS, 0, (0, 0, 0)), lambda told: told[0]),
+    (lambda machine: grown_by_two(machine).fills(), lambda told: told),
 ]
+
+
+def grown_by_two(machine):
+    """A grown machine with two fills, which fill nothing."""
+    grown = Grown(machine, machine)
+    grown.fill(0, 0, machine[1][0][0])
+    grown.fill(len(machine[1]) - 1, 0, (None, None))
+    return grown
 
 
 class ToldTest(unittest.TestCase):
@@ -190,6 +206,50 @@ class HandedTest(unittest.TestCase):
             net, paper = least_net(3, on, off)
             self.assertIsNone(net_fault(on, off, net))
             self.assertEqual(least_net(3, on, off), (net, paper))
+
+    def test_papers_of_nets_stay_as_they_were(self):
+        on, off = (1, 2), (0, 3)
+        paper = least_net(2, on, off)[1]
+        for thing in (paper, list(paper), ("tries", list(paper[1])), ("spread", [1, 2]), ["spread", [[1], 2]]):
+            kept = copy.deepcopy(thing)
+            self.assertIs(needs_pieces(2, on, off, 2, thing), thing is paper)
+            self.assertEqual(thing, kept)
+
+    def test_told_machines_of_bits_may_be_handed_in(self):
+        for machine in (SMALL, FULL):
+            words, bits, many = words_for(machine)
+            self.assertIsNone(bit_fault(machine, words, bits))
+            self.assertEqual(nets_for(machine, words), bits)
+            answers, word = bit_run(bits, words[0], (0, 1, 0))
+            answers.clear()
+            self.assertEqual(len(bit_run(bits, words[0], (0, 1, 0))[0]), 3)
+
+    def test_filled_machines_stay_as_they_were(self):
+        kept = copy.deepcopy(SMALL)
+        grown = Grown(SMALL, SMALL)
+        for fill in ((0, 1, (0, 5)), (2, 1, (1, None)), (2, 1, (None, None)), (2, 1, (1, 2))):
+            filled(SMALL, *fill)
+            grown.fill(*fill)
+            self.assertRaises(NotOpen, filled, SMALL, 0, 0, (0, 0))
+            self.assertEqual(SMALL, kept)
+
+    def test_told_fills_are_the_askers_own(self):
+        grown = Grown(SMALL, SMALL)
+        grown.fill(0, 1, (0, 5))
+        before = grown.fills()
+        before.append((1, 0, (None, None)))
+        before[0] = None
+        self.assertEqual(grown.fills(), [(0, 1, (0, 5))])
+        kept = grown.fills()
+        grown.fill(2, 1, (None, 3))
+        self.assertEqual(kept, [(0, 1, (0, 5))])
+        kept.clear()
+        self.assertEqual(grown.fills(), [(0, 1, (0, 5)), (2, 1, (None, 3))])
+        told = grown.fills()
+        grown.back()
+        grown.back()
+        self.assertEqual(told, [(0, 1, (0, 5)), (2, 1, (None, 3))])
+        self.assertEqual((grown.fills(), grown.machine()), ([], SMALL))
 
     def test_lists_within_a_thing_stay_as_they_were(self):
         thing = (1, [[[0, 0]]])

@@ -4,22 +4,26 @@ import itertools
 import random
 import unittest
 
-from opencells.errors import Clash, TooMany
+from opencells.bitmachines import bit_fault, bit_run
+from opencells.choices import nets_for
+from opencells.errors import Clash, NotOpen, TooMany
 from opencells.fulls import is_full, shrunk
+from opencells.growth import Grown
 from opencells.least import least
 from opencells.lotmachines import lots_fault, made
 from opencells.lots import fits, greatest_lots
 from opencells.machines import is_machine
 from opencells.namings import naming
+from opencells.netpapers import needs_pieces
+from opencells.nets import least_net
 from opencells.papers import needs
 from opencells.partings import parting
-from opencells.nets import least_net, says
 from opencells.runs import lets, run
 from opencells.sheets import disagrees, least_of, tree_of
 from opencells.standing import pairs_fault, stands
 from opencells.tries import tries_for
 from opencells.words import bits_of, tables
-from tests import brute, brutenets
+from tests import brute
 from tests.samples import draw_machine, draw_row, draw_sheet, draw_sheet_of, drawn, drawn_likeness
 
 
@@ -188,15 +192,45 @@ class PromiseTest(unittest.TestCase):
             machine = draw_machine(draw, draw.randint(1, 8), draw.randint(1, 2), 0.2, 0.2, 8)
             b, c = bits_of(machine)
             words = tuple(draw.sample(range(1 << b), len(machine[1])))
-            nets = []
-            for on, off in tables(machine, words):
-                net, paper = least_net(b + c, on, off)
-                self.assertTrue(paper is None or brutenets.is_paper(b + c, on, off, len(net), paper))
-                nets.append(net)
-            for room, ask in itertools.product(range(len(machine[1])), range(machine[0])):
-                bits = [says(net, words[room] + ask * 2 ** b) for net in nets]
-                goes, answer = machine[1][room][ask]
-                if goes is not None:
-                    self.assertEqual(sum(bit << k for k, bit in enumerate(bits[:b])), words[goes])
-                if answer is not None:
-                    self.assertEqual(sum(bit << k for k, bit in enumerate(bits[b:])), answer)
+            bits = nets_for(machine, words)
+            self.assertIsNone(bit_fault(machine, words, bits))
+            for net, (on, off) in zip(bits[2], tables(machine, words), strict=True):
+                told, paper = least_net(b + c, on, off)
+                self.assertEqual(told, net)
+                # None of fewer pieces is right, by its paper.
+                self.assertTrue(paper is None if net == () else needs_pieces(b + c, on, off, len(net), paper))
+            for rows in range(10):
+                row = draw_row(draw, machine[0], 40)
+                row = row[:len(run(machine, 0, row)[0])]
+                answers, room = run(machine, 0, row)
+                said, word = bit_run(bits, words[0], row)
+                self.assertEqual([other for answer, other in zip(answers, said, strict=True) if answer is not None],
+                                 [answer for answer in answers if answer is not None])
+                self.assertTrue(room is None or words[room] == word)
+
+    def test_a_filled_cell_leaves_a_standing_machine_standing_or_a_row_is_told(self):
+        draw = random.Random(43)
+        ends = {"stands": 0, "fails": 0}
+        for machine in drawn(44, 80, 6, 2):
+            try:
+                other = least(machine)[0]
+            except TooMany:
+                continue
+            grown = Grown(machine, other)
+            for k in range(6):
+                room, ask = draw.randrange(len(machine[1])), draw.randrange(machine[0])
+                try:
+                    row = grown.fill(room, ask, (draw.randrange(len(machine[1])), draw.choice((None, 0, 1))))
+                except NotOpen:
+                    continue
+                if row is None:
+                    self.assert_stands(draw, grown.machine(), other)
+                    ends["stands"] += 1
+                else:
+                    self.assertTrue(brute.fails_at(grown.machine(), other, row))
+                    ends["fails"] += 1
+                    if draw.random() < 0.7:
+                        grown.back()
+                # What was filled is still to be met, and what was told ahead of it.
+                self.assert_stands(draw, machine, grown.machine())
+        self.assertTrue(min(ends.values()) > 30, ends)
