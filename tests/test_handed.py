@@ -5,13 +5,15 @@ import unittest
 
 from opencells.bitmachines import bit_fault, bit_run
 from opencells.choices import nets_for, words_for
-from opencells.errors import Clash, NotClosed, NotOpen, NoWords
+from opencells.desk import Desk
+from opencells.errors import Clash, NoLine, NotClosed, NotOpen, NoWords
 from opencells.fulls import blocks
 from opencells.growth import Grown, filled
 from opencells.least import least, paper_for
 from opencells.lotmachines import lots_fault, made
 from opencells.lots import followers, greatest_lots
 from opencells.machines import is_machine
+from opencells.names import is_order, renamed
 from opencells.netpapers import needs_pieces
 from opencells.nets import least_net, net_fault
 from opencells.papers import needs
@@ -19,7 +21,9 @@ from opencells.partings import parted, parting
 from opencells.pieces import greatest_pieces
 from opencells.runs import lets, reached, run
 from opencells.sheets import disagrees, least_of, tree_of
+from opencells.sheettexts import read_sheet, show_sheet
 from opencells.standing import pairs_fault, stands
+from opencells.texts import show_machine
 from opencells.tries import tries_for
 from opencells.words import is_words, tables
 from tests.samples import FULL, SMALL, ring, two_rings
@@ -45,6 +49,7 @@ TOLD = [
     (lambda machine: greatest_pieces(3, (3, 5, 6), 0), lambda told: told),
     (lambda machine: bit_run(BITS, 0, (0, 0, 0)), lambda told: told[0]),
     (lambda machine: grown_by_two(machine).fills(), lambda told: told),
+    (lambda machine: read_sheet(2, "010 3-7; 1 -"), lambda told: told),
 ]
 
 
@@ -250,6 +255,40 @@ class HandedTest(unittest.TestCase):
         grown.back()
         self.assertEqual(told, [(0, 1, (0, 5)), (2, 1, (None, 3))])
         self.assertEqual((grown.fills(), grown.machine()), ([], SMALL))
+
+    def test_shown_sheets_stay_as_they_were(self):
+        sheet = list(SHEET)
+        text = show_sheet(sheet)
+        self.assertEqual(sheet, SHEET)
+        told = read_sheet(2, text)
+        self.assertEqual(told, sheet)
+        told.append(((0,), (7,)))
+        self.assertEqual(read_sheet(2, text), sheet)
+        sheet.pop()
+        self.assertEqual(show_sheet(SHEET), text)
+        none = read_sheet(2, "none")
+        none.append(((0,), (0,)))
+        self.assertEqual(read_sheet(2, "none"), [])
+
+    def test_orders_and_machines_stay_as_they_were(self):
+        for thing in ([0, 1], [[0], 1], (0, [1]), {0: 1}):
+            kept = copy.deepcopy(thing)
+            self.assertIs(is_order(thing, 2), False)
+            self.assertEqual(thing, kept)
+        kept = copy.deepcopy(SMALL)
+        renamed(SMALL, (0, 2, 1), (1, 0), tuple(range(8)))
+        self.assertEqual(SMALL, kept)
+
+    def test_lines_stay_as_they_were(self):
+        desk = Desk()
+        for line in (["names"], ["put", "a", [1]], {"names": []}):
+            kept = copy.deepcopy(line)
+            self.assertRaises(NoLine, desk.say, line)
+            self.assertEqual(line, kept)
+        desk.say(f"put a {show_machine(SMALL)}")
+        told = desk.say("show a")
+        desk.say("fill a 0 1 -/5")
+        self.assertEqual(told, show_machine(SMALL))
 
     def test_lists_within_a_thing_stay_as_they_were(self):
         thing = (1, [[[0, 0]]])

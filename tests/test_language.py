@@ -116,11 +116,25 @@ class LanguageTest(unittest.TestCase):
                 elif isinstance(node, ast.ImportFrom):
                     bound += [alias.name for alias in node.names]
                 elif isinstance(node, ast.Assign):
+                    self.assert_plain(node.value, bound)
                     bound += [target.id for target in node.targets]
-                    ast.literal_eval(node.value)
                 else:
                     bound.append(node.name)
             self.assertEqual(len(set(bound)), len(bound), name)
+
+    def assert_plain(self, value, bound):
+        """A value at module level is written out; a table may have functions defined above it."""
+        if isinstance(value, ast.Dict) and all(isinstance(part, ast.Name) for part in value.values):
+            self.assertTrue({part.id for part in value.values} <= set(bound))
+            self.assertEqual([type(ast.literal_eval(key)) for key in value.keys], [str] * len(value.keys))
+        else:
+            ast.literal_eval(value)
+
+    def test_tables_of_functions_are_called_by_a_name(self):
+        for name, text, tree in files():
+            for node in ast.walk(tree):
+                if isinstance(node, ast.Call):
+                    self.assertIsInstance(node.func, (ast.Name, ast.Attribute), (name, node.lineno))
 
     def test_imports(self):
         homes = {f"opencells.{name[:-3]}": tree for name, text, tree in files()}

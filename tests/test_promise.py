@@ -5,7 +5,8 @@ import random
 import unittest
 
 from opencells.bitmachines import bit_fault, bit_run
-from opencells.choices import nets_for
+from opencells.choices import nets_for, words_for
+from opencells.desk import Desk
 from opencells.errors import Clash, NotOpen, TooMany
 from opencells.fulls import is_full, shrunk
 from opencells.growth import Grown
@@ -20,7 +21,9 @@ from opencells.papers import needs
 from opencells.partings import parting
 from opencells.runs import lets, run
 from opencells.sheets import disagrees, least_of, tree_of
+from opencells.sheettexts import read_net, read_sheet, show_net, show_sheet
 from opencells.standing import pairs_fault, stands
+from opencells.texts import read_machine, read_row, show_cell, show_machine, show_row
 from opencells.tries import tries_for
 from opencells.words import bits_of, tables
 from tests import brute
@@ -234,3 +237,99 @@ class PromiseTest(unittest.TestCase):
                 # What was filled is still to be met, and what was told ahead of it.
                 self.assert_stands(draw, machine, grown.machine())
         self.assertTrue(min(ends.values()) > 30, ends)
+
+    def check_bits(self, sheet, words, bits):
+        """Nets run from the word of room 0 say all that is told."""
+        for row, answers in sheet:
+            said = bit_run(bits, words[0], row)[0]
+            self.assertEqual([other for answer, other in zip(answers, said, strict=True) if answer is not None],
+                             [answer for answer in answers if answer is not None])
+
+    def test_from_told_rows_to_the_least_machine_its_words_and_nets_and_their_run(self):
+        draw = random.Random(45)
+        chosen = 0
+        for k in range(120):
+            hidden = draw_machine(draw, draw.randint(1, 5), draw.randint(1, 3), 0, 0, 3)
+            sheet = draw_sheet_of(draw, hidden, 4, 7)
+            try:
+                other, lots, paper = least_of(hidden[0], sheet)
+            except TooMany:
+                continue
+            words = tuple(draw.sample(range(1 << bits_of(other)[0]), len(other[1])))
+            self.check_bits(sheet, words, nets_for(other, words))
+            if len(other[1]) <= 4 and other[0] <= 2:
+                words, bits, many = words_for(other)
+                self.check_bits(sheet, words, bits)
+                self.assertIsNone(bit_fault(other, words, bits))
+                chosen += len(other[1]) > 1
+        self.assertGreater(chosen, 15)
+
+    def test_the_same_by_the_desk(self):
+        draw = random.Random(46)
+        chosen = 0
+        for k in range(80):
+            hidden = draw_machine(draw, draw.randint(1, 4), draw.randint(1, 2), 0, 0, 8)
+            sheet = draw_sheet_of(draw, hidden, 4, 6)
+            desk = Desk()
+            desk.say(f"sheet tree {hidden[0]} {show_sheet(sheet)}")
+            desk.say("least tree small")
+            self.assertEqual(desk.say("stands tree small"), "yes")
+            small = read_machine(desk.say("show small"))
+            self.assertEqual((read_machine(desk.say("show tree")), small), (tree_of(hidden[0], sheet),
+                                                                            least_of(hidden[0], sheet)[0]))
+            for row, answers in sheet:
+                said = desk.say(f"run small {show_row(row)}").split(" ")[0]
+                self.assertTrue(all(answer in (None, int(sign)) for answer, sign in zip(answers, said, strict=True)
+                                    if answer is not None))
+            words, colon, many = desk.say("words small").partition(" : ")
+            nets = desk.say(f"nets small {words}").split(" | ")
+            b, c = bits_of(small)
+            bits = (b, c, tuple(read_net(b + c, net) for net in nets))
+            numbers = tuple(int(word) for word in words.split(" "))
+            self.assertIsNone(bit_fault(small, numbers, bits))
+            self.assertEqual(int(many), sum(len(net) for net in bits[2]))
+            self.check_bits(sheet, numbers, bits)
+            chosen += len(numbers) > 1
+        self.assertGreater(chosen, 15)
+
+    def test_cells_filled_later_by_the_desk_and_by_a_grown_machine(self):
+        draw = random.Random(47)
+        ends = {"yes": 0, "no": 0, "refused": 0}
+        for machine in drawn(48, 60, 5, 2):
+            desk = Desk()
+            desk.say(f"put m {show_machine(machine)}")
+            desk.say("least m small")
+            grown = Grown(machine, read_machine(desk.say("show small")))
+            for k in range(8):
+                room, ask = draw.randrange(len(machine[1])), draw.randrange(machine[0])
+                cell = (draw.choice((None, draw.randrange(len(machine[1])))), draw.choice((None, 0, 1)))
+                line = f"fill m {room} {ask} {show_cell(cell)}"
+                try:
+                    row = grown.fill(room, ask, cell)
+                except NotOpen:
+                    self.assertRaises(NotOpen, desk.say, line)
+                    ends["refused"] += 1
+                    continue
+                self.assertEqual(desk.say(line), "ok")
+                self.assertEqual(read_machine(desk.say("show m")), grown.machine())
+                self.assertEqual(desk.say("stands m small"), "yes" if row is None else f"no {show_row(row)}")
+                ends["yes" if row is None else "no"] += 1
+        self.assertTrue(min(ends.values()) > 20, ends)
+
+    def test_what_is_written_is_read_back(self):
+        draw = random.Random(49)
+        for machine in drawn(50, 60, 8, 3, 8):
+            self.assertEqual(read_machine(show_machine(machine)), machine)
+            other = drawn_likeness(draw, machine)
+            verdict, shown = stands(machine, other)
+            if verdict == "no":
+                self.assertEqual(read_row(machine[0], show_row(shown)), shown)
+            sheet = draw_sheet_of(draw, machine, 5, 8)
+            sheet = [told for told in sheet if told[0]]
+            self.assertEqual(read_sheet(machine[0], show_sheet(sheet)), sheet)
+            words = tuple(range(len(machine[1])))
+            try:
+                b, c, nets = nets_for(machine, words)
+            except TooMany:
+                continue
+            self.assertEqual(tuple(read_net(b + c, show_net(net)) for net in nets), nets)
